@@ -1,0 +1,1 @@
+"""Signals and pictures: the calls stand in gridwave.both."""

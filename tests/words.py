@@ -1,0 +1,252 @@
+"""The document's words, put down once more and slowly over fractions, for the tests to hold
+the program against. Nothing here comes from the program."""
+
+import struct
+from fractions import Fraction
+
+FLOATING = (9, 10, 11, 12)
+BITS = {1: 8, 2: 16, 3: 32, 4: 64, 5: 8, 6: 16, 7: 32, 8: 64, 9: 16, 10: 16, 11: 32, 12: 64}
+FORMS = {9: (5, 10), 10: (8, 7), 11: (8, 23), 12: (11, 52)}
+
+# Of each floating kind, written out by hand.
+ONE = {9: 0x3C00, 10: 0x3F80, 11: 0x3F800000, 12: 0x3FF0000000000000}
+SIGN = {9: 0x8000, 10: 0x8000, 11: 0x80000000, 12: 0x8000000000000000}
+INF = {9: 0x7C00, 10: 0x7F80, 11: 0x7F800000, 12: 0x7FF0000000000000}
+NONE = {9: 0x7E00, 10: 0x7FC0, 11: 0x7FC00000, 12: 0x7FF8000000000000}
+# The greatest number, and the least that has a whole fraction (x 1, f 0).
+GREATEST = {9: 0x7BFF, 10: 0x7F7F, 11: 0x7F7FFFFF, 12: 0x7FEFFFFFFFFFFFFF}
+WHOLE = {9: 0x0400, 10: 0x0080, 11: 0x00800000, 12: 0x0010000000000000}
+
+
+def other_nones(kind):
+    """Cells that are none, in other forms than the one form."""
+    return [INF[kind] + 1, INF[kind] + SIGN[kind] + 1, NONE[kind] + SIGN[kind], 2 * SIGN[kind] - 1, SIGN[kind] - 1]
+
+
+def cell(kind, number):
+    """The cell of a number that the kind holds exactly, by Python's own packing."""
+    if kind == 9:
+        return struct.unpack("<H", struct.pack("<e", number))[0]
+    if kind == 12:
+        return struct.unpack("<Q", struct.pack("<d", number))[0]
+    single = struct.unpack("<I", struct.pack("<f", number))[0]
+    return single if kind == 11 else single >> 16
+
+
+def cells(kind, *numbers):
+    return [cell(kind, number) for number in numbers]
+
+
+def pair(kind, cell_):
+    """('none', 0), ('infinite', sign), or (Fraction, sign)."""
+    e, m = FORMS[kind]
+    sign = cell_ >> (e + m)
+    x = (cell_ >> m) % 2 ** e
+    f = cell_ % 2 ** m
+    if x == 2 ** e - 1:
+        return ("infinite", sign) if f == 0 else ("none", 0)
+    if x == 0:
+        size = f * Fraction(2) ** (2 - 2 ** (e - 1) - m)
+    else:
+        size = (2 ** m + f) * Fraction(2) ** (x + 1 - 2 ** (e - 1) - m)
+    return (-size if sign else size, sign)
+
+
+def nearest_multiple(size, unit):
+    return round(size / unit) * unit
+
+
+def power_below(size):
+    p = size.numerator.bit_length() - size.denominator.bit_length()
+    while Fraction(2) ** p > size:
+        p -= 1
+    while Fraction(2) ** (p + 1) <= size:
+        p += 1
+    return p
+
+
+def rounded(kind, q):
+    """The cell of a number that is not 0, and its flags."""
+    e, m = FORMS[kind]
+    sign = SIGN[kind] if q < 0 else 0
+    size = abs(q)
+    p = power_below(size)
+    least = 2 - 2 ** (e - 1)
+    r = nearest_multiple(size, Fraction(2) ** (max(p, least) - m))
+    if r >= 2 ** (2 ** (e - 1)):
+        return sign + INF[kind], 20
+    flags = 0
+    if r != size:
+        flags = 16
+        if nearest_multiple(size, Fraction(2) ** (p - m)) < Fraction(2) ** least:
+            flags = 24
+    if r < Fraction(2) ** least:
+        return sign + int(r / Fraction(2) ** (least - m)), flags
+    top = power_below(r)
+    x = top - 1 + 2 ** (e - 1)
+    f = int(r / Fraction(2) ** (top - m)) - 2 ** m
+    return sign + (x << m) + f, flags
+
+
+def told(kind, value, sign):
+    """The cell of a pair that is not to be rounded, or of a nought."""
+    if value == "none":
+        return NONE[kind]
+    if value == "infinite":
+        return INF[kind] + sign * SIGN[kind]
+    return sign * SIGN[kind]
+
+
+def sum_of_pairs(kind, a, b):
+    if "none" in (a[0], b[0]):
+        return NONE[kind], 0
+    if a[0] == "infinite" and b[0] == "infinite":
+        return (told(kind, *a), 0) if a[1] == b[1] else (NONE[kind], 1)
+    for one in (a, b):
+        if one[0] == "infinite":
+            return told(kind, *one), 0
+    exact = a[0] + b[0]
+    if exact == 0:
+        return (SIGN[kind] if a[0] == 0 and a[1] == 1 and b[1] == 1 else 0), 0
+    return rounded(kind, exact)
+
+
+def product_of_pairs(a, b):
+    """The exact product as a pair, or None where it is invalid."""
+    if "none" in (a[0], b[0]):
+        return ("none", 0)
+    sign = a[1] ^ b[1]
+    if "infinite" in (a[0], b[0]):
+        return None if 0 in (a[0], b[0]) else ("infinite", sign)
+    return (a[0] * b[0], sign)
+
+
+def plus(kind, a, b):
+    return sum_of_pairs(kind, pair(kind, a), pair(kind, b))
+
+
+def times(kind, a, b):
+    product = product_of_pairs(pair(kind, a), pair(kind, b))
+    if product is None:
+        return NONE[kind], 1
+    if product[0] in ("none", "infinite", 0):
+        return told(kind, *product), 0
+    return rounded(kind, product[0])
+
+
+def fused(kind, a, b, c):
+    product = product_of_pairs(pair(kind, a), pair(kind, b))
+    third = pair(kind, c)
+    if product is None:
+        return NONE[kind], (0 if third[0] == "none" else 1)
+    return sum_of_pairs(kind, product, third)
+
+
+def at_edge(edge, x, i):
+    """The cell that stands at place i, None if it is left out."""
+    n = len(x)
+    if 0 <= i < n:
+        return x[i]
+    if edge == 0:
+        return None
+    if edge == 1:
+        return x[0] if i < 0 else x[n - 1]
+    if edge == 2:
+        return x[i % n]
+    if n == 1:
+        return x[0]
+    d = i % (2 * (n - 1))
+    return x[2 * (n - 1) - d] if d > n - 1 else x[d]
+
+
+def filter_by_words(kind, edge, x, c):
+    flags = 0
+    out = []
+    for i in range(len(x)):
+        s = 0
+        for j in range(len(c)):
+            sample = at_edge(edge, x, i - j)
+            if sample is not None:
+                s, more = fused(kind, c[j], sample, s)
+                flags |= more
+        out.append(s)
+    return [flags] + out
+
+
+def other_sign(kind, a):
+    return a if pair(kind, a)[0] == "none" else a ^ SIGN[kind]
+
+
+def one_form(kind, a):
+    return NONE[kind] if pair(kind, a)[0] == "none" else a
+
+
+def back_by_words(kind, c, state, x):
+    flags = [0]
+    state = [one_form(kind, a) for a in state]
+
+    def noted(answer):
+        flags[0] |= answer[1]
+        return answer[0]
+
+    out = []
+    for sample in x:
+        y = one_form(kind, sample)
+        for k in range(len(c) // 5):
+            b0, b1, b2, a1, a2 = c[5 * k:5 * k + 5]
+            p, q = state[2 * k:2 * k + 2]
+            x_in = y
+            y = noted(fused(kind, b0, x_in, p))
+            p = noted(fused(kind, b1, x_in, q))
+            p = noted(fused(kind, other_sign(kind, a1), y, p))
+            q = noted(times(kind, b2, x_in))
+            q = noted(fused(kind, other_sign(kind, a2), y, q))
+            state[2 * k:2 * k + 2] = [p, q]
+        out.append(y)
+    return flags + state + out
+
+
+def rate_by_words(kind, up, down, c, x):
+    out = []
+    i = 0
+    while i * down < len(x) * up:
+        s = 0
+        for j in range(len(c)):
+            ahead = i * down - j
+            if ahead >= 0 and ahead % up == 0 and ahead // up < len(x):
+                s = fused(kind, c[j], x[ahead // up], s)[0]
+        out.append(s)
+        i += 1
+    return [len(out)] + out
+
+
+class Numbers:
+    """Numbers that look thrown but are the same each time."""
+
+    def __init__(self, seed):
+        self.state = seed
+
+    def below(self, bound):
+        self.state = (self.state * 6364136223846793005 + 1442695040888963407) % 2 ** 64
+        return (self.state >> 20) % bound
+
+    def odd_cell(self, kind):
+        """A cell of a floating kind: often one at an edge of what the kind holds."""
+        special = [0, 1, 2, 3, WHOLE[kind] - 1, WHOLE[kind], WHOLE[kind] + 1, ONE[kind] - 1, ONE[kind],
+                   ONE[kind] + 1, GREATEST[kind] - 1, GREATEST[kind], INF[kind], NONE[kind], INF[kind] + 1]
+        sign = self.below(2) * SIGN[kind]
+        chance = self.below(10)
+        if chance < 3:
+            return sign + special[self.below(len(special))]
+        if chance < 5:
+            return self.below(2 ** BITS[kind])
+        return sign + self.near_one(kind)
+
+    def near_one(self, kind):
+        """A cell without the sign whose number isn't far from 1."""
+        m = FORMS[kind][1]
+        return ONE[kind] + ((self.below(7) - 3) << m) + self.below(2 ** m) * self.below(2)
+
+    def plain_cell(self, kind):
+        """A number not far from 1, with either sign, so that much comes out rounded."""
+        return self.below(2) * SIGN[kind] + self.near_one(kind)
