@@ -1,14 +1,16 @@
 """The calls: what each refuses, and what it answers."""
 
 from gridwave.floating import Floats
-from gridwave.kinds import are_cells, is_floating
+from gridwave.kinds import are_cells, is_floating, is_kind, measure_of, one_form, rank_of
 from gridwave.samples import at_rate, count_at_rate, filtered, filtered_back, sections_of, states_of
+from gridwave.samples import likeness, medians, peak_places
 
 MOST_EDGE = 3
 MOST_SAMPLES = 4096
 MOST_COEFFICIENTS = 256
 MOST_SECTIONS = 16
 MOST_RATE = 4096
+MOST_RADIUS = 64
 
 
 def are_samples(kind, x):
@@ -68,3 +70,35 @@ def rate(kind, up, down, c, x):
     work = Floats(kind)
     out = at_rate(work, up, down, work.all_parts(c), work.all_parts(x))
     return [len(out)] + work.all_cells(out)
+
+
+def alike(kind, lags, x, y):
+    """Call 4: the flags, then how alike x and y are at each lag below lags."""
+    if not is_floating(kind) or len(x) != len(y) or lags > len(x):
+        return [-1]
+    if not are_samples(kind, x) or not are_samples(kind, y):
+        return [-1]
+    work = Floats(kind)
+    first = work.all_parts(x)
+    second = work.all_parts(y)
+    out = [likeness(work, lag, first, second) for lag in range(lags)]
+    return [work.flags] + work.all_cells(out)
+
+
+def median(kind, edge, r, x):
+    """Call 5: 0, then the medians of radius r."""
+    if not is_kind(kind) or edge > MOST_EDGE or r > MOST_RADIUS or not are_samples(kind, x):
+        return [-1]
+    cells = [one_form(kind, cell) for cell in x]
+    ranks = [rank_of(kind, cell) for cell in cells]
+    # No two cells have one rank, so each rank leads back to its cell.
+    cell_at = dict(zip(ranks, cells))
+    return [0] + [cell_at[rank] for rank in medians(edge, r, ranks)]
+
+
+def peaks(kind, x):
+    """Call 6: how many peaks, then their places."""
+    if not is_kind(kind) or not are_samples(kind, x):
+        return [-1]
+    places = peak_places([measure_of(kind, cell) for cell in x])
+    return [len(places)] + places

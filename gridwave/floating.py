@@ -4,7 +4,7 @@ Between reading and telling, a cell is its parts: a tuple (sort, sign, value, po
 A number is value 2^power; the sign is kept beside the value because a nought's value has none.
 """
 
-from gridwave.kinds import exponent_bits, fraction_bits
+from gridwave.kinds import exponent_bits, fraction_bits, infinite_cell, none_cell, sign_bit_of
 
 NUMBER = 0
 INFINITE = 1
@@ -19,10 +19,10 @@ TOO_SMALL = 8
 NOT_EXACT = 16
 
 
-def nearest(size, drop):
-    """How many 2^drop are nearest to size, of two as near the even number; drop is above 0."""
-    odd = (size >> drop) & 1
-    return (size + (1 << (drop - 1)) - 1 + odd) >> drop
+def nearest(value, drop):
+    """How many 2^drop are nearest to value, of two as near the even number; drop is above 0."""
+    odd = (value >> drop) & 1
+    return (value + (1 << (drop - 1)) - 1 + odd) >> drop
 
 
 def opposite(parts):
@@ -41,21 +41,22 @@ class Floats:
     """One floating kind's operations, and the flags of all that were done."""
 
     def __init__(self, kind):
-        exponent = exponent_bits(kind)
         self.fraction = fraction_bits(kind)
-        self.limit = 1 << (exponent - 1)
+        # Numbers are below 2^limit; those from 2^least on have a whole fraction.
+        self.limit = 1 << (exponent_bits(kind) - 1)
         self.least = 2 - self.limit
-        self.sign_bit = 1 << (exponent + self.fraction)
-        self.ones = ((1 << exponent) - 1) << self.fraction
+        self.sign_bit = sign_bit_of(kind)
+        self.infinite = infinite_cell(kind)
+        self.none = none_cell(kind)
         self.flags = 0
 
     def parts_of(self, cell):
         """The parts of a cell."""
         sign = 1 if cell & self.sign_bit else 0
         rest = cell & (self.sign_bit - 1)
-        if rest > self.ones:
+        if rest > self.infinite:
             return NOTHING
-        if rest == self.ones:
+        if rest == self.infinite:
             return (INFINITE, sign, 0, 0)
         exponent = rest >> self.fraction
         size = rest & ((1 << self.fraction) - 1)
@@ -72,10 +73,10 @@ class Floats:
     def cell_of(self, parts):
         """The cell of these parts, in its one form."""
         if parts[0] == NONE:
-            return self.ones + (1 << (self.fraction - 1))
+            return self.none
         sign = self.sign_bit if parts[1] else 0
         if parts[0] == INFINITE:
-            return sign + self.ones
+            return sign + self.infinite
         size = abs(parts[2])
         if size == 0:
             return sign
@@ -98,32 +99,31 @@ class Floats:
     def rounded(self, value, power):
         """The number value 2^power, value not 0, rounded to the kind."""
         sign = 1 if value < 0 else 0
-        size = -value if sign else value
-        top = size.bit_length() - 1 + power
+        top = value.bit_length() - 1 + power
         unit = (top if top > self.least else self.least) - self.fraction
         drop = unit - power
         if drop > 0:
-            kept = nearest(size, drop)
-            if kept << drop != size:
-                self.note_lost(size, power, top)
-            size = kept
+            kept = nearest(value, drop)
+            if kept << drop != value:
+                self.note_lost(value, power, top)
+            value = kept
             power = unit
-        if size.bit_length() + power > self.limit:
+        if value.bit_length() + power > self.limit:
             self.flags |= TOO_GREAT | NOT_EXACT
             return (INFINITE, sign, 0, 0)
-        return (NUMBER, sign, -size if sign else size, power)
+        return (NUMBER, sign, value, power)
 
-    def note_lost(self, size, power, top):
-        """Set the flags of a number size 2^power, from 2^top on, that rounding changed."""
+    def note_lost(self, value, power, top):
+        """Set the flags of a number value 2^power, of size 2^top or more, that rounding changed."""
         self.flags |= NOT_EXACT
         if top >= self.least:
             return
         # Whether it is too small is asked of the number rounded as if exponents went on below.
         drop = top - self.fraction - power
         if drop > 0:
-            size = nearest(size, drop)
+            value = nearest(value, drop)
             power += drop
-        if size.bit_length() - 1 + power < self.least:
+        if value.bit_length() - 1 + power < self.least:
             self.flags |= TOO_SMALL
 
     def plus(self, a, b):

@@ -1,4 +1,4 @@
-"""Rows of samples: edges, filters forward and back, other rates."""
+"""Rows of samples: edges, filters forward and back, other rates, likeness, medians, peaks."""
 
 from gridwave.floating import NOUGHT, opposite
 
@@ -108,3 +108,53 @@ def at_rate(work, up, down, c, x):
             s = work.fused(c[j], x[(ahead - j) // up], s)
         out.append(s)
     return out
+
+
+def by_halves(work, row):
+    """The row's parts added by halves; the nought of none."""
+    if not row:
+        return NOUGHT
+    # Neighbours added, an odd last one kept, and that again: the first 2^k always end up by themselves.
+    while len(row) > 1:
+        sums = [work.plus(row[k], row[k + 1]) for k in range(0, len(row) - 1, 2)]
+        row = sums + row[2 * len(sums):]
+    return row[0]
+
+
+def likeness(work, lag, x, y):
+    """How alike x is to y at a lag."""
+    products = [work.times(a, b) for a, b in zip(x, y[lag:])]
+    return by_halves(work, products)
+
+
+def middle_of(numbers):
+    """The middle one by size, of an even number the lower of both."""
+    return sorted(numbers)[(len(numbers) - 1) // 2]
+
+
+def medians(edge, r, x):
+    """Of the numbers within r of each place the middle one."""
+    row = with_edges(edge, x, r, r)
+    out = []
+    for i in range(len(x)):
+        near = [number for number in row[i:i + 2 * r + 1] if number is not None]
+        out.append(middle_of(near))
+    return out
+
+
+def is_less(a, b):
+    """Whether a is less than b; never if one is None."""
+    return a is not None and b is not None and a < b
+
+
+def falls_behind(x, i):
+    """Whether the first number behind place i that isn't the same is less."""
+    j = i + 1
+    while j < len(x) and x[j] == x[i]:
+        j += 1
+    return j < len(x) and is_less(x[j], x[i])
+
+
+def peak_places(x):
+    """The places of the peaks among numbers, or None for what is none."""
+    return [i for i in range(1, len(x)) if is_less(x[i - 1], x[i]) and falls_behind(x, i)]

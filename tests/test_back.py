@@ -148,6 +148,10 @@ class Signs(unittest.TestCase):
             self.assertEqual(back(kind, [one, sign, sign, sign, sign], [0, sign], [one]), [0, 0, 0, one])
             # b1 x is 0: q's sign is lost; b2 x is -0, so is the rest
             self.assertEqual(back(kind, [one, 0, sign, 0, 0], [0, sign], [one]), [0, 0, sign, one])
+            # b2 x: -0 times -1 is 0, 0 times -1 is -0; less -0 times -1, which is -0, it stays
+            less = one + sign
+            self.assertEqual(back(kind, [one, one, sign, 0, sign], [0, 0], [less]), [0, less, 0, less])
+            self.assertEqual(back(kind, [one, one, 0, 0, sign], [0, 0], [less]), [0, less, sign, less])
             # y = -0 times 1 and -0; y = -0 times 1 and 0
             self.assertEqual(back(kind, [sign, one, one, 0, 0], [sign, 0], [one]), [0, one, one, sign])
             self.assertEqual(back(kind, [sign, one, one, 0, 0], [0, 0], [one]), [0, one, one, 0])

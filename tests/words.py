@@ -5,6 +5,7 @@ import struct
 from fractions import Fraction
 
 FLOATING = (9, 10, 11, 12)
+KINDS = tuple(range(1, 13))
 BITS = {1: 8, 2: 16, 3: 32, 4: 64, 5: 8, 6: 16, 7: 32, 8: 64, 9: 16, 10: 16, 11: 32, 12: 64}
 FORMS = {9: (5, 10), 10: (8, 7), 11: (8, 23), 12: (11, 52)}
 
@@ -25,6 +26,8 @@ def other_nones(kind):
 
 def cell(kind, number):
     """The cell of a number that the kind holds exactly, by Python's own packing."""
+    if kind < 9:
+        return number % 2 ** BITS[kind]
     if kind == 9:
         return struct.unpack("<H", struct.pack("<e", number))[0]
     if kind == 12:
@@ -217,6 +220,78 @@ def rate_by_words(kind, up, down, c, x):
                 s = fused(kind, c[j], x[ahead // up], s)[0]
         out.append(s)
         i += 1
+    return [len(out)] + out
+
+
+def by_halves(kind, row):
+    if not row:
+        return 0, 0
+    if len(row) == 1:
+        return row[0], 0
+    first = 1
+    while 2 * first < len(row):
+        first *= 2
+    a, a_flags = by_halves(kind, row[:first])
+    b, b_flags = by_halves(kind, row[first:])
+    out, flags = plus(kind, a, b)
+    return out, flags | a_flags | b_flags
+
+
+def alike_by_words(kind, lags, x, y):
+    flags = 0
+    out = []
+    for lag in range(lags):
+        row = []
+        for i in range(len(x) - lag):
+            product, more = times(kind, x[i], y[i + lag])
+            row.append(product)
+            flags |= more
+        total, more = by_halves(kind, row)
+        flags |= more
+        out.append(total)
+    return [flags] + out
+
+
+def whole(kind, a):
+    return a - 2 ** BITS[kind] if kind <= 4 and a >= 2 ** (BITS[kind] - 1) else a
+
+
+def order(kind, a):
+    """What a cell is sorted by."""
+    if kind < 9:
+        return (0, whole(kind, a), 0)
+    value, sign = pair(kind, a)
+    if value == "none":
+        return (3, 0, 0)
+    if value == "infinite":
+        return (0 if sign else 2, 0, 0)
+    return (1, value, 1 - sign)
+
+
+def compare(kind, a, b):
+    """'less', 'same', 'more' by value, or None."""
+    a, b = order(kind, a)[:2], order(kind, b)[:2]
+    if kind >= 9 and 3 in (a[0], b[0]):
+        return None
+    return "same" if a == b else ("less" if a < b else "more")
+
+
+def median_by_words(kind, edge, r, x):
+    out = []
+    for i in range(len(x)):
+        near = [at_edge(edge, x, i + d) for d in range(-r, r + 1)]
+        near = sorted((a for a in near if a is not None), key=lambda a: order(kind, a))
+        a = near[(len(near) - 1) // 2]
+        out.append(a if kind < 9 else one_form(kind, a))
+    return [0] + out
+
+
+def peaks_by_words(kind, x):
+    out = []
+    for i in range(1, len(x)):
+        others = [j for j in range(i + 1, len(x)) if compare(kind, x[j], x[i]) != "same"]
+        if compare(kind, x[i - 1], x[i]) == "less" and others and compare(kind, x[others[0]], x[i]) == "less":
+            out.append(i)
     return [len(out)] + out
 
 
