@@ -2,8 +2,9 @@
 
 from gridwave.floating import Floats
 from gridwave.kinds import are_cells, is_floating, is_kind, measure_of, one_form, rank_of
+from gridwave.pictures import boxed, sums_both_ways
 from gridwave.samples import at_rate, count_at_rate, filtered, filtered_back, sections_of, states_of
-from gridwave.samples import likeness, medians, peak_places
+from gridwave.samples import likeness, medians, peak_places, window_at
 
 MOST_EDGE = 3
 MOST_SAMPLES = 4096
@@ -11,6 +12,12 @@ MOST_COEFFICIENTS = 256
 MOST_SECTIONS = 16
 MOST_RATE = 4096
 MOST_RADIUS = 64
+MOST_SORT = 2
+MOST_PLACES = 4096
+MOST_SIDE = 64
+
+# A byte is a cell of this kind.
+BYTE = 5
 
 
 def are_samples(kind, x):
@@ -36,6 +43,11 @@ def is_rate(up, down, n):
     if up < 1 or up > MOST_RATE or down < 1 or down > MOST_RATE:
         return False
     return count_at_rate(up, down, n) <= MOST_SAMPLES
+
+
+def is_picture(w, h, x):
+    """Whether x is a picture of h rows of w bytes that is not refused."""
+    return w <= MOST_SIDE and h <= MOST_SIDE and len(x) == w * h and are_cells(BYTE, x)
 
 
 def filter_of(kind, edge, x, c):
@@ -102,3 +114,26 @@ def peaks(kind, x):
         return [-1]
     places = peak_places([measure_of(kind, cell) for cell in x])
     return [len(places)] + places
+
+
+def window(kind, sort, n):
+    """Call 7: the flags, then a window of n places."""
+    if not is_floating(kind) or sort > MOST_SORT or n > MOST_PLACES:
+        return [-1]
+    work = Floats(kind)
+    out = [window_at(work, sort, n, i) for i in range(n)]
+    return [work.flags] + work.all_cells(out)
+
+
+def sums(w, h, x):
+    """Call 8: 0, then both ways' sums."""
+    if not is_picture(w, h, x):
+        return [-1]
+    return [0] + sums_both_ways(w, h, x)
+
+
+def box(w, h, r, x):
+    """Call 9: 0, then the picture by a box of radius r."""
+    if r > MOST_RADIUS or not is_picture(w, h, x):
+        return [-1]
+    return [0] + boxed(w, h, r, x)

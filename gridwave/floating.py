@@ -126,6 +126,17 @@ class Floats:
         if value.bit_length() - 1 + power < self.least:
             self.flags |= TOO_SMALL
 
+    def quotient(self, value, divisor):
+        """The number value / divisor, both above 0, rounded to the kind."""
+        shift = self.fraction + 3 + divisor.bit_length()
+        scaled = value << shift
+        size = 2 * (scaled // divisor)
+        # What is left over only has to tell which side of a half the number lies on, and that it isn't exact:
+        # one lowest bit does that, for the shift leaves more bits above it than the fraction holds.
+        if scaled % divisor:
+            size += 1
+        return self.rounded(size, -shift - 1)
+
     def plus(self, a, b):
         """The sum of two; their values may be longer than a cell holds."""
         if a[0] or b[0]:

@@ -1,4 +1,4 @@
-"""Rows of samples: edges, filters forward and back, other rates, likeness, medians, peaks."""
+"""Rows of samples: edges, filters forward and back, other rates, likeness, medians, peaks, windows."""
 
 from gridwave.floating import NOUGHT, opposite
 
@@ -158,3 +158,13 @@ def falls_behind(x, i):
 def peak_places(x):
     """The places of the peaks among numbers, or None for what is none."""
     return [i for i in range(1, len(x)) if is_less(x[i - 1], x[i]) and falls_behind(x, i)]
+
+
+def window_at(work, sort, n, i):
+    """A window of n places at i."""
+    d = 2 * i + 1 - n
+    # No place is 0, which quotient could not take: d is above -n and below n.
+    if sort == 0:
+        return work.quotient(n - abs(d), n)
+    # Sorts 1 and 2 are one number: d / n is 2 u - 1, so that 4 u (1 - u) is 1 less the square of d / n.
+    return work.quotient(n * n - d * d, n * n)

@@ -295,6 +295,41 @@ def peaks_by_words(kind, x):
     return [len(out)] + out
 
 
+def window_by_words(kind, sort, n):
+    flags = 0
+    out = []
+    for i in range(n):
+        d = Fraction(2 * i + 1 - n, n)
+        u = Fraction(2 * i + 1, 2 * n)
+        q = (1 - abs(d), 1 - d ** 2, 4 * u * (1 - u))[sort]
+        a, more = (0, 0) if q == 0 else rounded(kind, q)
+        flags |= more
+        out.append(a)
+    return [flags] + out
+
+
+def each_place(w, h, answer):
+    """0, then answer(x, y) of each place of a picture, row by row."""
+    return [0] + [answer(x, y) for y in range(h) for x in range(w)]
+
+
+def cells_within(w, h, rx, ry, picture, x, y):
+    """The cells within rx to the sides and ry up and down, those beyond left out."""
+    return [picture[b * w + a] for b in range(h) for a in range(w) if abs(a - x) <= rx and abs(b - y) <= ry]
+
+
+def sums_by_words(w, h, picture):
+    return each_place(w, h, lambda x, y: sum(picture[b * w + a] for b in range(y + 1) for a in range(x + 1)))
+
+
+def box_by_words(w, h, r, picture):
+    def mean(x, y):
+        near = cells_within(w, h, r, r, picture, x, y)
+        return (2 * sum(near) + len(near)) // (2 * len(near))
+
+    return each_place(w, h, mean)
+
+
 class Numbers:
     """Numbers that look thrown but are the same each time."""
 
@@ -325,3 +360,63 @@ class Numbers:
     def plain_cell(self, kind):
         """A number not far from 1, with either sign, so that much comes out rounded."""
         return self.below(2) * SIGN[kind] + self.near_one(kind)
+
+    def picture(self, w, h):
+        """The bytes of a picture: of all sizes, or of a few, or mostly at the ends."""
+        chance = self.below(3)
+        if chance == 0:
+            return [self.below(256) for _ in range(w * h)]
+        if chance == 1:
+            return [self.below(4) for _ in range(w * h)]
+        return [(0, 255, 128, 254)[self.below(4)] for _ in range(w * h)]
+
+
+class PictureTests:
+    """What every call that takes a picture refuses of it, as tests; call(w, h, x) is to be given."""
+
+    GREAT = 2 ** 64 - 1
+
+    def refused(self, w, h, picture):
+        before = list(picture)
+        self.assertEqual(self.call(w, h, picture), [-1])
+        self.assertEqual(picture, before)
+
+    def taken(self, w, h, picture):
+        before = list(picture)
+        answer = self.call(w, h, picture)
+        self.assertNotEqual(answer[0], -1)
+        self.assertEqual(len(answer), 1 + w * h)
+        self.assertEqual(picture, before)
+        # what is answered is the caller's own, and the next time it's as if for the first time
+        kept = list(answer)
+        answer[0] = 99
+        answer.append(99)
+        self.assertEqual(picture, before)
+        self.assertEqual(self.call(w, h, picture), kept)
+
+    def test_sides(self):
+        for w, h in ((64, 1), (1, 64), (64, 64), (0, 64), (64, 0), (0, 0)):
+            self.taken(w, h, [7] * (w * h))
+        for w, h in ((65, 1), (1, 65), (64, 65), (65, 64), (0, 65), (65, 0), (65, 65)):
+            self.refused(w, h, [7] * (w * h))
+
+    def test_very_great_sides(self):
+        great = self.GREAT
+        for w, h in ((great, great), (great, 0), (0, great), (great, 1), (1, great), (2 ** 32, 2 ** 32), (2 ** 63, 2)):
+            self.refused(w, h, [])
+
+    def test_how_many_bytes(self):
+        for w, h in ((3, 2), (2, 3), (1, 1), (64, 64)):
+            self.taken(w, h, [9] * (w * h))
+            self.refused(w, h, [9] * (w * h - 1))
+            self.refused(w, h, [9] * (w * h + 1))
+            self.refused(w, h, [])
+        for w, h in ((0, 0), (0, 1), (1, 0), (64, 0), (0, 64)):
+            self.taken(w, h, [])
+            self.refused(w, h, [0])
+
+    def test_no_byte(self):
+        for place in range(6):
+            self.taken(3, 2, [0] * place + [255] + [0] * (5 - place))
+            for number in (256, self.GREAT):
+                self.refused(3, 2, [0] * place + [number] + [0] * (5 - place))
