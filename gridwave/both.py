@@ -2,7 +2,7 @@
 
 from gridwave.floating import Floats
 from gridwave.kinds import are_cells, is_floating, is_kind, measure_of, one_form, rank_of
-from gridwave.pictures import boxed, sums_both_ways
+from gridwave.pictures import boxed, by_square, middles, shaped, sums_both_ways
 from gridwave.samples import at_rate, count_at_rate, filtered, filtered_back, sections_of, states_of
 from gridwave.samples import likeness, medians, peak_places, window_at
 
@@ -15,6 +15,10 @@ MOST_RADIUS = 64
 MOST_SORT = 2
 MOST_PLACES = 4096
 MOST_SIDE = 64
+MOST_SQUARE = 15
+MOST_SHIFT = 31
+MOST_ADD = 65536
+MOST_OP = 1
 
 # A byte is a cell of this kind.
 BYTE = 5
@@ -48,6 +52,11 @@ def is_rate(up, down, n):
 def is_picture(w, h, x):
     """Whether x is a picture of h rows of w bytes that is not refused."""
     return w <= MOST_SIDE and h <= MOST_SIDE and len(x) == w * h and are_cells(BYTE, x)
+
+
+def is_square(m, k):
+    """Whether k is a square of m rows of m numbers that is not refused."""
+    return m % 2 == 1 and m <= MOST_SQUARE and len(k) == m * m
 
 
 def filter_of(kind, edge, x, c):
@@ -137,3 +146,24 @@ def box(w, h, r, x):
     if r > MOST_RADIUS or not is_picture(w, h, x):
         return [-1]
     return [0] + boxed(w, h, r, x)
+
+
+def square(w, h, m, shift, add, k, x):
+    """Call 10: 0, then the picture by a square k of m rows."""
+    if not is_square(m, k) or shift > MOST_SHIFT or abs(add) > MOST_ADD or not is_picture(w, h, x):
+        return [-1]
+    return [0] + by_square(w, h, m, shift, add, k, x)
+
+
+def shape(w, h, op, rx, ry, x):
+    """Call 11: 0, then the least (op 0) or the most (op 1) of a shape."""
+    if op > MOST_OP or rx > MOST_RADIUS or ry > MOST_RADIUS or not is_picture(w, h, x):
+        return [-1]
+    return [0] + shaped(w, h, op, rx, ry, x)
+
+
+def middle(w, h, x):
+    """Call 12: 0, then the middles of nine."""
+    if not is_picture(w, h, x):
+        return [-1]
+    return [0] + middles(w, h, x)

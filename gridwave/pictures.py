@@ -1,4 +1,11 @@
-"""Pictures of bytes, row by row: sums both ways and boxes."""
+"""Pictures of bytes, row by row: sums both ways, boxes, squares, shapes, middles."""
+
+from gridwave.samples import middle_of, with_edges
+
+# The rule of edges by which the nearest one stands beyond.
+NEAREST = 1
+
+MOST_BYTE = 255
 
 
 def rows_of(w, h, x):
@@ -54,3 +61,54 @@ def boxed(w, h, r, x):
     totals = within_both_ways(w, h, r, r, total_of, x)
     counts = within_both_ways(w, h, r, r, total_of, [1] * (w * h))
     return [(2 * s + k) // (2 * k) for s, k in zip(totals, counts)]
+
+
+def least_of(numbers):
+    """The least of the numbers."""
+    return min(numbers)
+
+
+def most_of(numbers):
+    """The most of the numbers."""
+    return max(numbers)
+
+
+def shaped(w, h, op, rx, ry, x):
+    """At each place the least (op 0) or the most of those within rx to the sides, ry up and down."""
+    chosen = least_of if op == 0 else most_of
+    return within_both_ways(w, h, rx, ry, chosen, x)
+
+
+def all_around(w, h, r, x):
+    """At each place those within r both ways, row by row, the nearest ones for those beyond."""
+    rows = with_edges(NEAREST, rows_of(w, h, x), r, r)
+    rows = [with_edges(NEAREST, row, r, r) for row in rows]
+    out = []
+    for b in range(h):
+        for a in range(w):
+            around = []
+            for row in rows[b:b + 2 * r + 1]:
+                around.extend(row[a:a + 2 * r + 1])
+            out.append(around)
+    return out
+
+
+def held(number):
+    """The byte that is nearest to the number."""
+    return min(max(number, 0), MOST_BYTE)
+
+
+def by_square(w, h, m, shift, add, k, x):
+    """At each place the sum of those around it by m rows of m factors k, less its lowest bits, and add."""
+    # 2^(shift - 1), so that a half is rounded up, but nothing where shift is 0.
+    half = (1 << shift) >> 1
+    out = []
+    for around in all_around(w, h, m // 2, x):
+        s = sum([factor * byte for factor, byte in zip(k, around)])
+        out.append(held(((s + half) >> shift) + add))
+    return out
+
+
+def middles(w, h, x):
+    """At each place the middle one of the nine within 1 both ways."""
+    return [middle_of(around) for around in all_around(w, h, 1, x)]

@@ -1,5 +1,5 @@
 """The document's words, put down once more and slowly over fractions, for the tests to hold
-the program against. Nothing here comes from the program."""
+the program against; and the tests that all calls with a picture share. Nothing here comes from the program."""
 
 import struct
 from fractions import Fraction
@@ -328,6 +328,37 @@ def box_by_words(w, h, r, picture):
         return (2 * sum(near) + len(near)) // (2 * len(near))
 
     return each_place(w, h, mean)
+
+
+def at(w, h, picture, x, y):
+    """The byte at (x, y), beyond the edge the nearest cell's."""
+    return picture[min(max(y, 0), h - 1) * w + min(max(x, 0), w - 1)]
+
+
+def square_by_words(w, h, m, shift, add, k, picture):
+    half = (m - 1) // 2
+
+    def byte(x, y):
+        s = 0
+        for b in range(m):
+            for a in range(m):
+                s += k[b * m + a] * at(w, h, picture, x + a - half, y + b - half)
+        if shift != 0:
+            s += 2 ** (shift - 1)
+        return sorted((0, s // 2 ** shift + add, 255))[1]
+
+    return each_place(w, h, byte)
+
+
+def shape_by_words(w, h, op, rx, ry, picture):
+    return each_place(w, h, lambda x, y: (min, max)[op](cells_within(w, h, rx, ry, picture, x, y)))
+
+
+def middle_by_words(w, h, picture):
+    def fifth(x, y):
+        return sorted(at(w, h, picture, a, b) for b in (y - 1, y, y + 1) for a in (x - 1, x, x + 1))[4]
+
+    return each_place(w, h, fifth)
 
 
 class Numbers:
