@@ -2,7 +2,7 @@
 
 from gridwave.floating import Floats
 from gridwave.kinds import are_cells, is_floating, is_kind, measure_of, one_form, rank_of
-from gridwave.pictures import boxed, by_square, middles, shaped, sums_both_ways
+from gridwave.pictures import best_match, boxed, by_square, edges_of, middles, scaled, shaped, sums_both_ways
 from gridwave.samples import at_rate, count_at_rate, filtered, filtered_back, sections_of, states_of
 from gridwave.samples import likeness, medians, peak_places, window_at
 
@@ -49,9 +49,14 @@ def is_rate(up, down, n):
     return count_at_rate(up, down, n) <= MOST_SAMPLES
 
 
+def are_sides(w, h):
+    """Whether w and h are sides of a picture that are not refused."""
+    return w <= MOST_SIDE and h <= MOST_SIDE
+
+
 def is_picture(w, h, x):
     """Whether x is a picture of h rows of w bytes that is not refused."""
-    return w <= MOST_SIDE and h <= MOST_SIDE and len(x) == w * h and are_cells(BYTE, x)
+    return are_sides(w, h) and len(x) == w * h and are_cells(BYTE, x)
 
 
 def is_square(m, k):
@@ -167,3 +172,26 @@ def middle(w, h, x):
     if not is_picture(w, h, x):
         return [-1]
     return [0] + middles(w, h, x)
+
+
+def edges(w, h, x):
+    """Call 13: 0, then how steep the picture is at each place."""
+    if not is_picture(w, h, x):
+        return [-1]
+    return [0] + edges_of(w, h, x)
+
+
+def scale(w, h, v, u, x):
+    """Call 14: 0, then the picture scaled to u rows of v."""
+    if not is_picture(w, h, x) or not are_sides(v, u) or (v * u == 0) != (w * h == 0):
+        return [-1]
+    return [0] + scaled(w, h, v, u, x)
+
+
+def match(w, h, v, u, x, y):
+    """Call 15: 0, then where the block y of u rows of v differs least, x and y of that place, and how much."""
+    if not is_picture(w, h, x) or not is_picture(v, u, y):
+        return [-1]
+    if v == 0 or u == 0 or v > w or u > h:
+        return [-4]
+    return [0] + best_match(w, h, v, u, x, y)

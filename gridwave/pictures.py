@@ -1,4 +1,4 @@
-"""Pictures of bytes, row by row: sums both ways, boxes, squares, shapes, middles."""
+"""Pictures of bytes, row by row: sums both ways, boxes, squares, shapes, middles, edges, scales, matches."""
 
 from gridwave.samples import middle_of, with_edges
 
@@ -19,6 +19,14 @@ def columns_of(w, rows):
     for a in range(w):
         columns.append([row[a] for row in rows])
     return columns
+
+
+def joined(rows):
+    """The numbers of the rows, one row behind the other."""
+    out = []
+    for row in rows:
+        out.extend(row)
+    return out
 
 
 def sums_both_ways(w, h, x):
@@ -45,10 +53,7 @@ def within_both_ways(w, h, rx, ry, chosen, x):
     """At each place what is chosen of those within rx to the sides, ry up and down, those beyond left out."""
     rows = [within(row, rx, chosen) for row in rows_of(w, h, x)]
     columns = [within(column, ry, chosen) for column in columns_of(w, rows)]
-    out = []
-    for row in columns_of(h, columns):
-        out.extend(row)
-    return out
+    return joined(columns_of(h, columns))
 
 
 def total_of(numbers):
@@ -86,10 +91,7 @@ def all_around(w, h, r, x):
     out = []
     for b in range(h):
         for a in range(w):
-            around = []
-            for row in rows[b:b + 2 * r + 1]:
-                around.extend(row[a:a + 2 * r + 1])
-            out.append(around)
+            out.append(joined([row[a:a + 2 * r + 1] for row in rows[b:b + 2 * r + 1]]))
     return out
 
 
@@ -112,3 +114,58 @@ def by_square(w, h, m, shift, add, k, x):
 def middles(w, h, x):
     """At each place the middle one of the nine within 1 both ways."""
     return [middle_of(around) for around in all_around(w, h, 1, x)]
+
+
+def steepness(around):
+    """How far apart the sides of nine cells are, right and left, below and above, the middle of a side twice."""
+    gx = around[2] + 2 * around[5] + around[8] - around[0] - 2 * around[3] - around[6]
+    gy = around[6] + 2 * around[7] + around[8] - around[0] - 2 * around[1] - around[2]
+    return abs(gx) + abs(gy)
+
+
+def edges_of(w, h, x):
+    """At each place how steep it is among the nine within 1 both ways."""
+    return [held(steepness(around)) for around in all_around(w, h, 1, x)]
+
+
+def stretched(row, count):
+    """The row, not empty, at count places from its first to its last; each number 2 count times, so that it's whole."""
+    parts = 2 * count
+    last = len(row) - 1
+    out = []
+    for i in range(count):
+        place = min(max((2 * i + 1) * len(row) - count, 0), last * parts)
+        before = place // parts
+        rest = place % parts
+        behind = min(before + 1, last)
+        out.append((parts - rest) * row[before] + rest * row[behind])
+    return out
+
+
+def scaled(w, h, v, u, x):
+    """The picture scaled to u rows of v, both of them with cells or both without."""
+    if v * u == 0:
+        return []
+    rows = [stretched(row, v) for row in rows_of(w, h, x)]
+    columns = [stretched(column, u) for column in columns_of(v, rows)]
+    # Rounded here alone, where both ways' parts are in each number.
+    parts = 4 * v * u
+    return [(2 * s + parts) // (2 * parts) for s in joined(columns_of(u, columns))]
+
+
+def difference(first, second):
+    """The sum of the differences' sizes of numbers that stand at the same places."""
+    return sum([abs(a - b) for a, b in zip(first, second)])
+
+
+def best_match(w, h, v, u, x, y):
+    """The place where the block y differs least from what lies there, the first by rows; and how much it differs."""
+    rows = rows_of(w, h, x)
+    found = []
+    for top in range(h - u + 1):
+        for left in range(w - v + 1):
+            part = joined([row[left:left + v] for row in rows[top:top + u]])
+            # In this order the least sum comes first, then the first row, then the first place in it.
+            found.append((difference(part, y), top, left))
+    least = min(found)
+    return [least[2], least[1], least[0]]

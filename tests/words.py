@@ -361,6 +361,46 @@ def middle_by_words(w, h, picture):
     return each_place(w, h, fifth)
 
 
+def edges_by_words(w, h, picture):
+    def size(x, y):
+        def three(places):
+            first, second, third = (at(w, h, picture, x + a, y + b) for a, b in places)
+            return first + 2 * second + third
+
+        gx = three(((1, -1), (1, 0), (1, 1))) - three(((-1, -1), (-1, 0), (-1, 1)))
+        gy = three(((-1, 1), (0, 1), (1, 1))) - three(((-1, -1), (0, -1), (1, -1)))
+        return min(abs(gx) + abs(gy), 255)
+
+    return each_place(w, h, size)
+
+
+def scale_by_words(w, h, v, u, picture):
+    def between(i, side, new):
+        a = min(max(Fraction((2 * i + 1) * side - new, 2 * new), 0), side - 1)
+        first = int(a)
+        return first, min(first + 1, side - 1), a - first
+
+    def byte(i, j):
+        x0, x1, f = between(i, w, v)
+        y0, y1, g = between(j, h, u)
+        exact = (1 - f) * (1 - g) * picture[y0 * w + x0] + f * (1 - g) * picture[y0 * w + x1]
+        exact += (1 - f) * g * picture[y1 * w + x0] + f * g * picture[y1 * w + x1]
+        return (exact + Fraction(1, 2)).__floor__()
+
+    return each_place(v, u, byte)
+
+
+def match_by_words(w, h, v, u, picture, block):
+    best = None
+    for y in range(h):
+        for x in range(w):
+            if x + v <= w and y + u <= h:
+                size = sum(abs(picture[(y + b) * w + x + a] - block[b * v + a]) for b in range(u) for a in range(v))
+                if best is None or size < best[2]:
+                    best = [x, y, size]
+    return [0] + best
+
+
 class Numbers:
     """Numbers that look thrown but are the same each time."""
 
@@ -407,6 +447,10 @@ class PictureTests:
 
     GREAT = 2 ** 64 - 1
 
+    def length(self, w, h):
+        """How many numbers are answered; a call that answers other than one a cell has its own."""
+        return 1 + w * h
+
     def refused(self, w, h, picture):
         before = list(picture)
         self.assertEqual(self.call(w, h, picture), [-1])
@@ -416,7 +460,7 @@ class PictureTests:
         before = list(picture)
         answer = self.call(w, h, picture)
         self.assertNotEqual(answer[0], -1)
-        self.assertEqual(len(answer), 1 + w * h)
+        self.assertEqual(len(answer), self.length(w, h))
         self.assertEqual(picture, before)
         # what is answered is the caller's own, and the next time it's as if for the first time
         kept = list(answer)
