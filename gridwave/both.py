@@ -2,7 +2,8 @@
 
 from gridwave.floating import Floats
 from gridwave.kinds import are_cells, is_floating, is_kind, measure_of, one_form, rank_of
-from gridwave.pictures import best_match, boxed, by_square, edges_of, middles, scaled, shaped, sums_both_ways
+from gridwave.pictures import best_match, boxed, by_square, edges_of, middles, regions_of, scaled, shaped
+from gridwave.pictures import sums_both_ways, turned
 from gridwave.samples import at_rate, count_at_rate, filtered, filtered_back, sections_of, states_of
 from gridwave.samples import likeness, medians, peak_places, window_at
 
@@ -19,6 +20,8 @@ MOST_SQUARE = 15
 MOST_SHIFT = 31
 MOST_ADD = 65536
 MOST_OP = 1
+MOST_LEVEL = 255
+MOST_HOW = 7
 
 # A byte is a cell of this kind.
 BYTE = 5
@@ -195,3 +198,17 @@ def match(w, h, v, u, x, y):
     if v == 0 or u == 0 or v > w or u > h:
         return [-4]
     return [0] + best_match(w, h, v, u, x, y)
+
+
+def regions(w, h, t, x):
+    """Call 16: how many regions of cells at least t, then each cell's number."""
+    if t > MOST_LEVEL or not is_picture(w, h, x):
+        return [-1]
+    return regions_of(w, h, t, x)
+
+
+def turn(w, h, how, x):
+    """Call 17: 0, then the picture turned."""
+    if how > MOST_HOW or not is_picture(w, h, x):
+        return [-1]
+    return [0] + turned(w, h, how, x)

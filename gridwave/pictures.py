@@ -1,4 +1,4 @@
-"""Pictures of bytes, row by row: sums both ways, boxes, squares, shapes, middles, edges, scales, matches."""
+"""Pictures of bytes, row by row: sums, boxes, squares, shapes, middles, edges, scales, matches, regions, turns."""
 
 from gridwave.samples import middle_of, with_edges
 
@@ -6,6 +6,11 @@ from gridwave.samples import middle_of, with_edges
 NEAREST = 1
 
 MOST_BYTE = 255
+
+# What a turn is made of.
+LEFT_TO_RIGHT = 1
+TOP_TO_BOTTOM = 2
+EXCHANGED = 4
 
 
 def rows_of(w, h, x):
@@ -169,3 +174,52 @@ def best_match(w, h, v, u, x, y):
             found.append((difference(part, y), top, left))
     least = min(found)
     return [least[2], least[1], least[0]]
+
+
+def beside(w, h, place):
+    """The places at the four sides of a place, but those beyond."""
+    places = []
+    if place >= w:
+        places.append(place - w)
+    if place % w > 0:
+        places.append(place - 1)
+    if place % w < w - 1:
+        places.append(place + 1)
+    if place < w * (h - 1):
+        places.append(place + w)
+    return places
+
+
+def spread(w, h, numbers, first, number):
+    """Gives the number to the first cell and to all that go together with it and have none yet."""
+    numbers[first] = number
+    ahead = [first]
+    while ahead:
+        place = ahead.pop()
+        for near in beside(w, h, place):
+            if numbers[near] is None:
+                numbers[near] = number
+                ahead.append(near)
+
+
+def regions_of(w, h, t, x):
+    """How many regions there are of cells at least t, then each cell's number, 0 where it is in none."""
+    numbers = [None if byte >= t else 0 for byte in x]
+    count = 0
+    for place in range(w * h):
+        if numbers[place] is None:
+            count += 1
+            spread(w, h, numbers, place, count)
+    return [count] + numbers
+
+
+def turned(w, h, how, x):
+    """The picture with x and y exchanged, then mirrored left to right, then top to bottom, as far as how says so."""
+    rows = rows_of(w, h, x)
+    if how & EXCHANGED != 0:
+        rows = columns_of(w, rows)
+    if how & LEFT_TO_RIGHT != 0:
+        rows = [list(reversed(row)) for row in rows]
+    if how & TOP_TO_BOTTOM != 0:
+        rows = list(reversed(rows))
+    return joined(rows)

@@ -289,16 +289,47 @@ class ByTheWords(unittest.TestCase):
                 with self.subTest(kind=kind, x=x, c=c):
                     self.assertEqual(filter_of(kind, 0, x, c), filter_by_words(kind, 0, x, c))
 
-    def test_in_pieces_as_whole(self):
+
+class InPieces(unittest.TestCase):
+    """Point 1: in pieces, with c's length less one samples before them (edge 0), it comes out as whole."""
+
+    def check(self, kind, x, c, cuts):
+        out = []
+        for start, end in zip([0] + cuts, cuts + [len(x)]):
+            before = min(start, max(len(c) - 1, 0))
+            piece = filter_of(kind, 0, x[start - before:end], c)
+            self.assertEqual(len(piece), 1 + before + end - start)
+            out += piece[1 + before:]
+        self.assertEqual(out, filter_of(kind, 0, x, c)[1:])
+
+    def test_one_cut_at_each_place(self):
         numbers = Numbers(3)
+        for kind in FLOATING:
+            for count in (0, 1, 2, 5, 13, 20):
+                x = [numbers.plain_cell(kind) for _ in range(13)]
+                c = [numbers.plain_cell(kind) for _ in range(count)]
+                for cut in range(14):
+                    with self.subTest(kind=kind, count=count, cut=cut):
+                        self.check(kind, x, c, [cut])
+
+    def test_pieces_of_one_length(self):
+        numbers = Numbers(4)
         for kind in FLOATING:
             x = [numbers.plain_cell(kind) for _ in range(40)]
             c = [numbers.plain_cell(kind) for _ in range(6)]
-            whole = filter_of(kind, 0, x, c)[1:]
-            for start, end in ((0, 7), (7, 8), (8, 30), (30, 40)):
-                before = min(start, len(c) - 1)
-                piece = filter_of(kind, 0, x[start - before:end], c)[1 + before:]
-                self.assertEqual(piece, whole[start:end])
+            for length in (1, 2, 3, 5, 6, 7, 16, 39, 40):
+                with self.subTest(kind=kind, length=length):
+                    self.check(kind, x, c, list(range(length, 40, length)))
+
+    def test_uneven_pieces_and_odd_cells(self):
+        numbers = Numbers(5)
+        for kind in FLOATING:
+            for turn in range(20):
+                x = [numbers.odd_cell(kind) for _ in range(30)]
+                c = [numbers.odd_cell(kind) for _ in range(1 + numbers.below(8))]
+                cuts = [place for place in range(31) if numbers.below(4) == 0]
+                with self.subTest(kind=kind, x=x, c=c, cuts=cuts):
+                    self.check(kind, x, c, cuts)
 
 
 class HandedIn(unittest.TestCase):

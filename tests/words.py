@@ -401,6 +401,44 @@ def match_by_words(w, h, v, u, picture, block):
     return [0] + best
 
 
+def side_by_side(w, h, t, picture):
+    """The pairs of places whose cells are at least t and share a side."""
+    pairs = []
+    for y in range(h):
+        for x in range(w):
+            if x + 1 < w:
+                pairs.append((y * w + x, y * w + x + 1))
+            if y + 1 < h:
+                pairs.append((y * w + x, (y + 1) * w + x))
+    return [(a, b) for a, b in pairs if picture[a] >= t and picture[b] >= t]
+
+
+def regions_by_words(w, h, t, picture):
+    """Each cell bears the first place that it goes together with, found by going over all pairs again and again."""
+    first = list(range(w * h))
+    pairs = side_by_side(w, h, t, picture)
+    before = None
+    while before != first:
+        before = list(first)
+        for a, b in pairs:
+            first[a] = first[b] = min(first[a], first[b])
+    firsts = sorted({first[place] for place in range(w * h) if picture[place] >= t})
+    numbers = [firsts.index(first[place]) + 1 if picture[place] >= t else 0 for place in range(w * h)]
+    return [len(firsts)] + numbers
+
+
+def turn_by_words(w, h, how, picture):
+    cells_at = {(x, y): picture[y * w + x] for y in range(h) for x in range(w)}
+    if how in (4, 5, 6, 7):
+        cells_at = {(y, x): byte for (x, y), byte in cells_at.items()}
+        w, h = h, w
+    if how in (1, 3, 5, 7):
+        cells_at = {(w - 1 - x, y): byte for (x, y), byte in cells_at.items()}
+    if how in (2, 3, 6, 7):
+        cells_at = {(x, h - 1 - y): byte for (x, y), byte in cells_at.items()}
+    return each_place(w, h, lambda x, y: cells_at[x, y])
+
+
 class Numbers:
     """Numbers that look thrown but are the same each time."""
 
